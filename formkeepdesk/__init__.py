@@ -1,0 +1,1 @@
+"""Whole-number forms in up to eight unknowns."""
