@@ -3,17 +3,23 @@
 Each call takes numbers and lists and answers a new list; a refusal is its number alone.
 """
 
-WRONG_SIZE = -2
+from formkeepdesk.elimination import split_rows, top_rows
+from formkeepdesk.reduction import reduced_columns
+from formkeepdesk.ways import ways_to
+
+OUT_OF_RANGE = -2
 NOT_A_FORM = -1
+NO_WAY = -6
 
 MOST_UNKNOWNS = 8
+MOST_VALUE = 64
 GREATEST_NUMBER = 32
 
 
 def fm_good(n, a):
     """Answer 1 if a is a form in n unknowns, 0 if it isn't."""
     if not is_size(n):
-        return [WRONG_SIZE]
+        return [OUT_OF_RANGE]
     if not is_form(n, a):
         return [0]
     return [1]
@@ -22,14 +28,39 @@ def fm_good(n, a):
 def fm_det(n, a):
     """Answer 0, then the determinant of the form a."""
     if not is_size(n):
-        return [WRONG_SIZE]
+        return [OUT_OF_RANGE]
     if not is_form(n, a):
         return [NOT_A_FORM]
-    return [0, leading_determinants(n, a)[-1]]
+    return [0, last_corner(n, a)]
+
+
+def fm_count(n, m, a):
+    """Answer 0, then in how many ways m is a value of the form a."""
+    if not is_size(n) or not is_countable(m):
+        return [OUT_OF_RANGE]
+    if not is_form(n, a):
+        return [NOT_A_FORM]
+    return [0, ways_to(n, reduced_columns(n, a), m)[0]]
+
+
+def fm_way(n, m, a):
+    """Answer 0, then the first unknowns at which m is the value of the form a."""
+    if not is_size(n) or not is_countable(m):
+        return [OUT_OF_RANGE]
+    if not is_form(n, a):
+        return [NOT_A_FORM]
+    first = ways_to(n, reduced_columns(n, a), m)[1]
+    if first is None:
+        return [NO_WAY]
+    return [0] + first
 
 
 def is_size(n):
     return 1 <= n <= MOST_UNKNOWNS
+
+
+def is_countable(m):
+    return 0 <= m <= MOST_VALUE
 
 
 def is_form(n, a):
@@ -52,30 +83,9 @@ def is_above_zero(n, a):
     """Tell whether the value is above 0 wherever some unknown isn't 0; a is mirrored."""
     # It is so just where every leading determinant is above 0. That holds for whole unknowns as it does
     # for fractions: where the value is not above 0 at some fractions, a multiple of these is whole.
-    # The walk stops at the first that isn't above 0, so the last one tells of them all.
-    return leading_determinants(n, a)[-1] > 0
+    # The elimination stops at the first that isn't above 0, so the last one tells of them all.
+    return last_corner(n, a) > 0
 
 
-def leading_determinants(n, a):
-    """The determinants of the first 1, 2, .. n rows and columns, up to the first that isn't above 0."""
-    rows = split_rows(n, a)
-    found = []
-    divisor = 1
-    while rows:
-        corner = rows[0][0]
-        found.append(corner)
-        if corner <= 0:
-            return found
-        rows = [reduced_row(rows[0], row, divisor) for row in rows[1:]]
-        divisor = corner
-    return found
-
-
-def split_rows(n, a):
-    return [a[i * n:i * n + n] for i in range(n)]
-
-
-def reduced_row(top, row, divisor):
-    """One row of Bareiss' elimination, without its first column."""
-    # The corner before this one divides every such number without a rest, so all stays whole.
-    return [(top[0] * row[j] - row[0] * top[j]) // divisor for j in range(1, len(row))]
+def last_corner(n, a):
+    return top_rows(split_rows(n, a))[-1][0]

@@ -6,6 +6,7 @@ SIZES = range(1, 9)
 LEAST_INT = -2147483648
 GREATEST_INT = 2147483647
 WRONG_SIZES = (LEAST_INT, LEAST_INT + 1, -8, -2, -1, 0, 9, 10, 64, GREATEST_INT - 1, GREATEST_INT)
+WRONG_VALUES = (LEAST_INT, LEAST_INT + 1, -64, -2, -1, 65, 66, 128, GREATEST_INT - 1, GREATEST_INT)
 
 
 class WatchedList(list):
@@ -97,6 +98,26 @@ def slow_det(n, a):
     return found[(1 << n) - 1]
 
 
+def without(n, a, row, column):
+    return [a[i * n + j] for i in range(n) for j in range(n) if i != row and j != column]
+
+
+def inverse(n, c):
+    """The change that undoes the change c, by its adjugate."""
+    determinant = slow_det(n, c)
+    found = []
+    for i in range(n):
+        for j in range(n):
+            sign = -1 if (i + j) % 2 else 1
+            found.append(sign * determinant * slow_det(n - 1, without(n, c, j, i)))
+    return found
+
+
+def times_rows(n, x, c):
+    """The sum of the rows of c, each times its unknown."""
+    return [sum(x[i] * c[i * n + j] for i in range(n)) for j in range(n)]
+
+
 def mirrored_lists(n, numbers):
     """Every n rows of n of these numbers that are the same on both sides."""
     places = [(i, j) for i in range(n) for j in range(i + 1)]
@@ -134,6 +155,14 @@ def drawn_change(n, numbers, steps):
         sign = 1 - 2 * numbers.draw(0, 1)
         c[i] = [x + sign * y for x, y in zip(c[i], c[j])]
     return flat(c)
+
+
+def put_ahead(n, c):
+    """The change of two rows c as the first two of n rows; each other row stays."""
+    rows = split(n, diagonal([1] * n))
+    rows[0] = c[:2] + rows[0][2:]
+    rows[1] = c[2:] + rows[1][2:]
+    return flat(rows)
 
 
 def drawn_in_bounds(n, own, seed, how_many):
@@ -250,3 +279,8 @@ def not_above_zero():
 
 def not_forms():
     return not_in_bounds() + not_mirrored() + not_above_zero()
+
+
+def some_of_each():
+    """(n, list) of forms in each n, and every seventh of what is no form."""
+    return [(n, a) for n, a, determinant in good_forms()] + not_forms()[::7]

