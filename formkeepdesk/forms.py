@@ -4,14 +4,16 @@ Each call takes numbers and lists and answers a new list; a refusal is its numbe
 """
 
 from formkeepdesk.elimination import split_rows, top_rows
+from formkeepdesk.firsts import first_of_same
 from formkeepdesk.reduction import reduced_columns
-from formkeepdesk.ways import ways_to
+from formkeepdesk.ways import least_value, ways_to
 
 OUT_OF_RANGE = -2
 NOT_A_FORM = -1
 NO_WAY = -6
 
 MOST_UNKNOWNS = 8
+MOST_UNKNOWNS_CHANGED = 4
 MOST_VALUE = 64
 GREATEST_NUMBER = 32
 
@@ -55,8 +57,34 @@ def fm_way(n, m, a):
     return [0] + first
 
 
+def fm_least(n, a):
+    """Answer the least value above 0 of the form a."""
+    if not is_size(n):
+        return [OUT_OF_RANGE]
+    if not is_form(n, a):
+        return [NOT_A_FORM]
+    return [least_value(n, reduced_columns(n, a))]
+
+
+def fm_same(n, a, b):
+    """Answer 1 if the forms a and b are the same, 0 if they aren't."""
+    if not is_size_changed(n):
+        return [OUT_OF_RANGE]
+    if not is_form(n, a) or not is_form(n, b):
+        return [NOT_A_FORM]
+    # Forms that are the same have one first form, and each is the same as its first.
+    if first_of_same(n, a)[0] == first_of_same(n, b)[0]:
+        return [1]
+    return [0]
+
+
 def is_size(n):
     return 1 <= n <= MOST_UNKNOWNS
+
+
+def is_size_changed(n):
+    """Tell whether changes of forms in n unknowns are asked for."""
+    return 1 <= n <= MOST_UNKNOWNS_CHANGED
 
 
 def is_countable(m):

@@ -27,6 +27,14 @@ def ways_to(n, columns, m):
     return (total, first)
 
 
+def least_value(n, columns):
+    """The least value above 0."""
+    m = 1
+    while ways_to(n, columns, m)[0] == 0:
+        m += 1
+    return m
+
+
 def alike_choices(n, columns, choices):
     """Spent and way of each choice, by its settled sums."""
     alike = {}

@@ -8,6 +8,8 @@ ARGUMENTS = {
     "fm_det": ("n", "a"),
     "fm_count": ("n", "m", "a"),
     "fm_way": ("n", "m", "a"),
+    "fm_least": ("n", "a"),
+    "fm_same": ("n", "a", "b"),
 }
 # How many numbers stand in each answer that is no refusal, for n unknowns.
 LENGTHS = {
@@ -15,8 +17,15 @@ LENGTHS = {
     "fm_det": lambda n: 2,
     "fm_count": lambda n: 2,
     "fm_way": lambda n: n + 1,
+    "fm_least": lambda n: 1,
+    "fm_same": lambda n: 1,
 }
+UP_TO_FOUR = ("fm_same",)
 VALUES = (0, 1, 64)
+
+
+def greatest_size(name):
+    return 4 if name in UP_TO_FOUR else 8
 
 
 def answer(name, handed):
@@ -24,9 +33,12 @@ def answer(name, handed):
 
 
 def handed_in(name, n, a, values=VALUES):
-    """All that the call is handed of these n and a: once for each m if it takes one."""
+    """All that the call is handed of these n and a: once for each m, on either side and on both."""
     if "m" in ARGUMENTS[name]:
         return [(n, m, list(a)) for m in values]
+    if "b" in ARGUMENTS[name]:
+        other = samples.diagonal([1] * n) if a else []
+        return [(n, list(a), other), (n, other, list(a)), (n, list(a), list(a))]
     return [(n, list(a))]
 
 

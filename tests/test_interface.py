@@ -22,20 +22,20 @@ class Interface(unittest.TestCase):
             for handed in calls.handed_in(name, 1, [5]):
                 self.assertEqual(call(**dict(zip(arguments, handed))), call(*handed))
 
-    def test_answers_are_lists_of_whole_numbers(self):
-        for name in calls.ARGUMENTS:
-            for handed in calls.ordinary(name):
-                answer = calls.answer(name, handed)
-                self.assertIs(type(answer), list)
-                for number in answer:
-                    self.assertIs(type(number), int)
+    def test_answers_are_lists_of_whole_numbers_and_nothing_is_printed(self):
+        out = io.StringIO()
+        with contextlib.redirect_stdout(out), contextlib.redirect_stderr(out):
+            for name in calls.ARGUMENTS:
+                for handed in calls.ordinary(name):
+                    self.check_answer(name, handed, calls.answer(name, handed))
+        self.assertEqual(out.getvalue(), "")
 
-    def test_lengths_of_the_answers(self):
-        for name in calls.ARGUMENTS:
-            for handed in calls.ordinary(name):
-                answer = calls.answer(name, handed)
-                wanted = calls.LENGTHS[name](handed[0]) if answer[0] >= 0 else 1
-                self.assertEqual(len(answer), wanted, (name, handed))
+    def check_answer(self, name, handed, answer):
+        self.assertIs(type(answer), list)
+        for number in answer:
+            self.assertIs(type(number), int)
+        wanted = calls.LENGTHS[name](handed[0]) if answer[0] >= 0 else 1
+        self.assertEqual(len(answer), wanted, (name, handed))
 
     def test_what_is_handed_in_is_not_changed(self):
         for name in calls.ARGUMENTS:
@@ -65,11 +65,3 @@ class Interface(unittest.TestCase):
         a[1] = 0
         self.assertEqual(forms.fm_det(2, a), [-1])
         self.assertEqual(forms.fm_good(2, a), [0])
-
-    def test_nothing_is_printed(self):
-        out = io.StringIO()
-        with contextlib.redirect_stdout(out), contextlib.redirect_stderr(out):
-            for name in calls.ARGUMENTS:
-                for handed in calls.ordinary(name):
-                    calls.answer(name, handed)
-        self.assertEqual(out.getvalue(), "")

@@ -17,6 +17,16 @@ class OutOfRange(unittest.TestCase):
                 for handed in calls.handed_in(name, n, [], calls.VALUES + samples.WRONG_VALUES):
                     self.check(name, handed)
 
+    def test_sizes_from_5_to_8_of_the_calls_that_go_up_to_4(self):
+        lists = samples.some_of_each()
+        for name in calls.UP_TO_FOUR:
+            for n in (5, 6, 7, 8):
+                mine = [a for size, a in lists if size == n]
+                self.assertGreater(len(mine), 20)
+                for a in mine:
+                    for handed in calls.handed_in(name, n, a):
+                        self.check(name, handed)
+
     def test_wrong_values(self):
         for name in calls.ARGUMENTS:
             if "m" not in calls.ARGUMENTS[name]:
@@ -33,9 +43,10 @@ class NoForm(unittest.TestCase):
             if name == "fm_good":
                 continue
             for n, a in lists:
+                wanted = [-1] if n <= calls.greatest_size(name) else [-2]
                 for handed in calls.handed_in(name, n, a):
                     with self.subTest(name=name, handed=handed):
-                        self.assertEqual(calls.answer(name, handed), [-1])
+                        self.assertEqual(calls.answer(name, handed), wanted)
 
     def test_numbers_out_of_bounds(self):
         self.check(samples.not_in_bounds())
@@ -50,7 +61,7 @@ class NoForm(unittest.TestCase):
 class NotRefused(unittest.TestCase):
     def test_edges_of_size_and_value(self):
         for name in calls.ARGUMENTS:
-            for n in (1, 8):
+            for n in (1, calls.greatest_size(name)):
                 for handed in calls.handed_in(name, n, samples.diagonal([1] * n)):
                     with self.subTest(name=name, handed=handed):
                         self.assertGreaterEqual(calls.answer(name, handed)[0], 0)
