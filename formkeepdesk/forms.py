@@ -78,6 +78,25 @@ def fm_same(n, a, b):
     return [0]
 
 
+def fm_turns(n, a):
+    """Answer how many changes leave the form a as it is."""
+    if not is_size_changed(n):
+        return [OUT_OF_RANGE]
+    if not is_form(n, a):
+        return [NOT_A_FORM]
+    # A change to the first form, put behind each change that leaves a, gives every change to it once.
+    return [first_of_same(n, a)[1]]
+
+
+def fm_first(n, a):
+    """Answer 0, then the first of all forms that are the same as a."""
+    if not is_size_changed(n):
+        return [OUT_OF_RANGE]
+    if not is_form(n, a):
+        return [NOT_A_FORM]
+    return [0] + first_of_same(n, a)[0]
+
+
 def is_size(n):
     return 1 <= n <= MOST_UNKNOWNS
 

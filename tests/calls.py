@@ -10,6 +10,8 @@ ARGUMENTS = {
     "fm_way": ("n", "m", "a"),
     "fm_least": ("n", "a"),
     "fm_same": ("n", "a", "b"),
+    "fm_turns": ("n", "a"),
+    "fm_first": ("n", "a"),
 }
 # How many numbers stand in each answer that is no refusal, for n unknowns.
 LENGTHS = {
@@ -19,8 +21,10 @@ LENGTHS = {
     "fm_way": lambda n: n + 1,
     "fm_least": lambda n: 1,
     "fm_same": lambda n: 1,
+    "fm_turns": lambda n: 1,
+    "fm_first": lambda n: n * n + 1,
 }
-UP_TO_FOUR = ("fm_same",)
+UP_TO_FOUR = ("fm_same", "fm_turns", "fm_first")
 VALUES = (0, 1, 64)
 
 

@@ -1,5 +1,7 @@
 """Changes of forms, found by trying all rows that can be there at all."""
 
+from operator import mul
+
 from tests import samples, slow_ways
 
 # No pair's forms are the same, though their determinants and their least values are alike.
@@ -43,6 +45,38 @@ def changes_between(n, a, b):
 
 def beside(n, a, left, right):
     return sum(left[k] * a[k * n + m] * right[m] for k in range(n) for m in range(n))
+
+
+def in_order(n, a):
+    """A form's numbers in the order in which forms are compared."""
+    return [a[i * n + j] for i in range(n) for j in range(i, -1, -1)]
+
+
+def all_lines(n, a, most):
+    """All unknowns at which the value is from 1 to most."""
+    return [line for m in range(1, most + 1) for line in slow_ways.ways_in_box(n, a, m)]
+
+
+def first_in_order(n, a, lines):
+    """The numbers, in order, of the first form that a change with these lines as rows makes of a.
+
+    Every change is tried but those whose first rows put the form behind one that was found before.
+    """
+    best = in_order(n, a)
+    images = {tuple(line): samples.times_rows(n, line, a) for line in lines}
+    waiting = [([], [])]
+    while waiting:
+        rows, numbers = waiting.pop()
+        if len(rows) == n:
+            if numbers < best and abs(samples.slow_det(n, samples.flat(rows))) == 1:
+                best = numbers
+            continue
+        for line in lines:
+            image = images[tuple(line)]
+            more = numbers + [sum(map(mul, image, row)) for row in [line] + rows[::-1]]
+            if more <= best[:len(more)]:
+                waiting.append((rows + [line], more))
+    return best
 
 
 def turned_over(n, c):
