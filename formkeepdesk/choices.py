@@ -6,13 +6,13 @@ the next row. Where no row is left, what is spent is the value, and the marks ar
 """
 
 
-def open_choice(n):
+def empty_choice(n):
     """The choice of which no row is chosen yet."""
     return (0, [0] * (2 * n))
 
 
 def grown_choices(n, columns, start, to, most):
-    """The choice, with all fitting numbers for the rows from its last open one down to row number `to`."""
+    """The choice, with all fitting numbers for the rows from its next one down to row number `to`."""
     last = len(start[1]) - n - 1
     choices = [start]
     for at in range(last, to - 1, -1):

@@ -6,7 +6,7 @@ but 1. It is kept as its images (in each the sums of a line's products with the 
 by their columns. A tail is what a row of the changed form has, from its own column back to the first.
 """
 
-from formkeepdesk.choices import grown_choices, open_choice
+from formkeepdesk.choices import empty_choice, grown_choices
 from formkeepdesk.elimination import split_rows
 from formkeepdesk.reduction import product_sum, reduced_columns
 
@@ -30,7 +30,7 @@ def lines_by_value(n, a):
     # none depends on the others can have, so none is above the greatest own number of the form handed in.
     most = max([a[i * n + i] for i in range(n)])
     lines = {}
-    for value, line in grown_choices(n, reduced_columns(n, a), open_choice(n), 0, most):
+    for value, line in grown_choices(n, reduced_columns(n, a), empty_choice(n), 0, most):
         lines.setdefault(value, []).append(line)
     return lines
 
@@ -43,6 +43,7 @@ def longer_starts(rows, lines, starts, owns):
             longer = joined_starts(rows, joins[tail])
             if longer:
                 return ([value] + list(tail), longer)
+    # Not reached: each start has such a row among the lines.
     return ([], [])
 
 

@@ -6,7 +6,7 @@ Each call takes numbers and lists and answers a new list; a refusal is its numbe
 from formkeepdesk.elimination import split_rows, top_rows
 from formkeepdesk.firsts import first_of_same
 from formkeepdesk.reduction import reduced_columns
-from formkeepdesk.ways import least_value, ways_to
+from formkeepdesk.ways import least_missed, least_value, ways_to
 
 OUT_OF_RANGE = -2
 NOT_A_FORM = -1
@@ -15,6 +15,7 @@ NO_WAY = -6
 MOST_UNKNOWNS = 8
 MOST_UNKNOWNS_CHANGED = 4
 MOST_VALUE = 64
+MOST_MISSED = 15
 GREATEST_NUMBER = 32
 
 
@@ -95,6 +96,15 @@ def fm_first(n, a):
     if not is_form(n, a):
         return [NOT_A_FORM]
     return [0] + first_of_same(n, a)[0]
+
+
+def fm_truant(n, a):
+    """Answer the least of 1 to 15 that isn't a value of the form a, 0 if all are."""
+    if not is_size(n):
+        return [OUT_OF_RANGE]
+    if not is_form(n, a):
+        return [NOT_A_FORM]
+    return [least_missed(n, reduced_columns(n, a), MOST_MISSED)]
 
 
 def is_size(n):

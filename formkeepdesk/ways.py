@@ -4,7 +4,7 @@ The numbers of the later rows are chosen first. What the others may add to such 
 settled columns alone, and few of these differ: so that is looked up once for each, not for each choice.
 """
 
-from formkeepdesk.choices import grown_choices, open_choice
+from formkeepdesk.choices import empty_choice, grown_choices
 from formkeepdesk.reduction import settle
 
 
@@ -12,7 +12,7 @@ def ways_to(n, columns, m):
     """How many ways there are to m, and the first of them, None if there is none."""
     middle = n // 2
     corner = columns[middle - 1][-1] if middle > 0 else 1
-    later = grown_choices(n, columns, open_choice(n), middle, m)
+    later = grown_choices(n, columns, empty_choice(n), middle, m)
     total = 0
     first = None
     for sums, alike in alike_choices(n, columns[:middle], later).items():
@@ -33,6 +33,14 @@ def least_value(n, columns):
     while ways_to(n, columns, m)[0] == 0:
         m += 1
     return m
+
+
+def least_missed(n, columns, most):
+    """The least number from 1 to most that is no value, 0 if all are values."""
+    for m in range(1, most + 1):
+        if ways_to(n, columns, m)[0] == 0:
+            return m
+    return 0
 
 
 def alike_choices(n, columns, choices):

@@ -12,6 +12,7 @@ ARGUMENTS = {
     "fm_same": ("n", "a", "b"),
     "fm_turns": ("n", "a"),
     "fm_first": ("n", "a"),
+    "fm_truant": ("n", "a"),
 }
 # How many numbers stand in each answer that is no refusal, for n unknowns.
 LENGTHS = {
@@ -23,6 +24,7 @@ LENGTHS = {
     "fm_same": lambda n: 1,
     "fm_turns": lambda n: 1,
     "fm_first": lambda n: n * n + 1,
+    "fm_truant": lambda n: 1,
 }
 UP_TO_FOUR = ("fm_same", "fm_turns", "fm_first")
 VALUES = (0, 1, 64)

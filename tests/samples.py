@@ -282,5 +282,5 @@ def not_forms():
 
 
 def some_of_each():
-    """(n, list) of forms in each n, and every seventh of what is no form."""
-    return [(n, a) for n, a, determinant in good_forms()] + not_forms()[::7]
+    """(n, list) of every second form in each n, and every seventh list that is no form."""
+    return [(n, a) for n, a, determinant in good_forms()[::2]] + not_forms()[::7]

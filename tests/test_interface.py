@@ -55,6 +55,19 @@ class Interface(unittest.TestCase):
             again = [calls.answer(name, handed) for handed in reversed(every)]
             self.assertEqual(list(reversed(again)), wanted)
 
+    def test_answers_are_alike_whatever_was_called_before(self):
+        asked = [(name, handed) for name in calls.ARGUMENTS for handed in calls.ordinary(name)[::9]]
+        wanted = [calls.answer(name, handed) for name, handed in asked]
+        # 7 steps at a time: calls of every name and size come behind one another.
+        order = [at for start in range(7) for at in range(start, len(asked), 7)]
+        for at in order[::-1]:
+            name, handed = asked[at]
+            self.assertEqual(calls.answer(name, handed), wanted[at], asked[at])
+
+    def test_the_calls_of_the_document_are_there(self):
+        there = [name for name in vars(forms) if name.startswith("fm_")]
+        self.assertEqual(sorted(there), sorted(calls.ARGUMENTS))
+
     def test_a_list_changed_by_its_owner_is_read_anew(self):
         a = [2, 1, 1, 2]
         self.assertEqual(forms.fm_det(2, a), [0, 3])
